@@ -1,0 +1,1 @@
+"""Quantum circuits of up to six qubits, reckoned exactly."""

@@ -1,0 +1,52 @@
+"""A state of some qubits in its one form."""
+
+from exactqubits.omega import ONE, ZERO, all_lowerable, all_lowered
+
+# 2^56
+MOST_COORDINATE = 72057594037927936
+
+
+class TooFine(Exception):
+    """A coordinate of the one form would be out of bounds."""
+
+
+class State:
+    """Amplitude i is amps[i] divided by root 2, level times. Nothing in it is changed once it is made."""
+
+    def __init__(self, qubits, level, amps):
+        self.qubits = qubits
+        self.level = level
+        self.amps = amps
+
+
+def fresh(qubits):
+    return State(qubits, 0, [ONE] + [ZERO] * ((1 << qubits) - 1))
+
+
+def one_form(qubits, level, amps):
+    """The state with these amplitudes at the least level."""
+    while level > 0 and all_lowerable(amps):
+        amps = all_lowered(amps)
+        level -= 1
+    check_fineness(amps)
+    return State(qubits, level, amps)
+
+
+def check_fineness(amps):
+    for z in amps:
+        if max(z) > MOST_COORDINATE or min(z) < -MOST_COORDINATE:
+            raise TooFine()
+
+
+def has_qubits(state, bits):
+    """Whether a set of qubits, as bits, holds the state's qubits alone."""
+    return bits >> state.qubits == 0
+
+
+def ones_in(bits):
+    """How many of the bits are 1."""
+    ones = 0
+    while bits > 0:
+        ones += bits & 1
+        bits >>= 1
+    return ones

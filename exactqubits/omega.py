@@ -1,0 +1,58 @@
+"""Numbers of the ring: a + b w + c w^2 + d w^3 is the tuple (a, b, c, d); w^4 is -1, root 2 is w - w^3."""
+
+ZERO = (0, 0, 0, 0)
+ONE = (1, 0, 0, 0)
+
+
+def added(x, y):
+    return (x[0] + y[0], x[1] + y[1], x[2] + y[2], x[3] + y[3])
+
+
+def lessened(x, y):
+    return (x[0] - y[0], x[1] - y[1], x[2] - y[2], x[3] - y[3])
+
+
+def product(x, y):
+    return (
+        x[0] * y[0] - x[1] * y[3] - x[2] * y[2] - x[3] * y[1],
+        x[0] * y[1] + x[1] * y[0] - x[2] * y[3] - x[3] * y[2],
+        x[0] * y[2] + x[1] * y[1] + x[2] * y[0] - x[3] * y[3],
+        x[0] * y[3] + x[1] * y[2] + x[2] * y[1] + x[3] * y[0],
+    )
+
+
+def turned(x, j):
+    """x w^j, for j from 0 to 7."""
+    # Eight turns are a full one and four change the sign, so a turn is a window on this wheel.
+    wheel = x + (-x[0], -x[1], -x[2], -x[3]) + x
+    return wheel[8 - j:12 - j]
+
+
+def conjugate(x):
+    return (x[0], -x[3], -x[2], -x[1])
+
+
+def raised(x):
+    """x times root 2."""
+    return (x[1] - x[3], x[0] + x[2], x[1] + x[3], x[2] - x[0])
+
+
+def all_lowerable(numbers):
+    """Whether each of the numbers is a multiple of root 2."""
+    for a, b, c, d in numbers:
+        if (a ^ c) & 1 or (b ^ d) & 1:
+            return False
+    return True
+
+
+def all_lowered(numbers):
+    """Multiples of root 2, each divided by it."""
+    # Dividing by root 2 is multiplying by it and halving.
+    return [((b - d) // 2, (a + c) // 2, (b + d) // 2, (c - a) // 2) for a, b, c, d in numbers]
+
+
+def size(x):
+    """u and v, where x times its conjugate is u + v root 2."""
+    u = x[0] * x[0] + x[1] * x[1] + x[2] * x[2] + x[3] * x[3]
+    v = x[0] * x[1] + x[1] * x[2] + x[2] * x[3] - x[3] * x[0]
+    return (u, v)
