@@ -1,7 +1,7 @@
 """The gates on one qubit, with controls."""
 
 from exactqubits.amplitudes import State, one_form
-from exactqubits.omega import added, lessened, raised, turned
+from exactqubits.omega import added, lessened, raised, rotated
 
 GATE_KINDS = 8
 X_GATE = 0
@@ -42,15 +42,15 @@ def swapped(state, bit, lows, j):
     """What was at 0 goes to 1 turned by j, what was at 1 goes to 0 turned back by j."""
     amps = list(state.amps)
     for i in lows:
-        amps[i] = turned(state.amps[i + bit], (8 - j) % 8)
-        amps[i + bit] = turned(state.amps[i], j)
+        amps[i] = rotated(state.amps[i + bit], -j)
+        amps[i + bit] = rotated(state.amps[i], j)
     return State(state.qubits, state.level, amps)
 
 
 def turned_ones(state, bit, lows, j):
     amps = list(state.amps)
     for i in lows:
-        amps[i + bit] = turned(amps[i + bit], j)
+        amps[i + bit] = rotated(amps[i + bit], j)
     return State(state.qubits, state.level, amps)
 
 

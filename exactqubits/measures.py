@@ -1,7 +1,7 @@
 """What is told of states without changing them."""
 
 from exactqubits.amplitudes import ones_in
-from exactqubits.omega import ZERO, added, conjugate, lessened, product, size, turned
+from exactqubits.omega import ZERO, added, conjugate, lessened, product, rotated, size
 
 
 def weight(state, mask, value):
@@ -20,7 +20,7 @@ def mean(state, xs, zs):
     total = ZERO
     for i, z in enumerate(amps):
         turns = 2 * ones_in(xs & zs) + 4 * ones_in(i & zs)
-        total = added(total, product(conjugate(amps[i ^ xs]), turned(z, turns % 8)))
+        total = added(total, product(conjugate(amps[i ^ xs]), rotated(z, turns)))
     # A real number u + v root 2 is u + v w - v w^3.
     return [total[0], total[1]]
 

@@ -21,11 +21,12 @@ def product(x, y):
     )
 
 
-def turned(x, j):
-    """x w^j, for j from 0 to 7."""
+def rotated(x, j):
+    """x w^j, for any j."""
     # Eight turns are a full one and four change the sign, so a turn is a window on this wheel.
     wheel = x + (-x[0], -x[1], -x[2], -x[3]) + x
-    return wheel[8 - j:12 - j]
+    start = 8 - j % 8
+    return wheel[start:start + 4]
 
 
 def conjugate(x):

@@ -1,7 +1,19 @@
 """The calls on numbers of the ring, which need no state."""
 
-from exactqubits.omega import added
+from exactqubits.omega import added, lessened, product, rotated
 
 
 def plus(x0, x1, x2, x3, y0, y1, y2, y3):
     return [0] + list(added((x0, x1, x2, x3), (y0, y1, y2, y3)))
+
+
+def minus(x0, x1, x2, x3, y0, y1, y2, y3):
+    return [0] + list(lessened((x0, x1, x2, x3), (y0, y1, y2, y3)))
+
+
+def times(x0, x1, x2, x3, y0, y1, y2, y3):
+    return [0] + list(product((x0, x1, x2, x3), (y0, y1, y2, y3)))
+
+
+def turned(x0, x1, x2, x3, j):
+    return [0] + list(rotated((x0, x1, x2, x3), j))
