@@ -1,6 +1,6 @@
 """A state of some qubits in its one form."""
 
-from exactqubits.omega import ONE, ZERO, all_lowerable, all_lowered
+from exactqubits.omega import ONE, ZERO, lowest
 
 # 2^56
 MOST_COORDINATE = 72057594037927936
@@ -25,11 +25,9 @@ def fresh(qubits):
 
 def one_form(qubits, level, amps):
     """The state with these amplitudes at the least level."""
-    while level > 0 and all_lowerable(amps):
-        amps = all_lowered(amps)
-        level -= 1
-    check_fineness(amps)
-    return State(qubits, level, amps)
+    least = lowest(amps, level)
+    check_fineness(least[0])
+    return State(qubits, least[1], least[0])
 
 
 def check_fineness(amps):

@@ -1,7 +1,7 @@
 """The gates on one qubit, with controls."""
 
 from exactqubits.amplitudes import State, one_form
-from exactqubits.omega import added, lessened, raised, rotated
+from exactqubits.omega import added, lessened, rotated, times_root
 
 GATE_KINDS = 8
 X_GATE = 0
@@ -31,7 +31,7 @@ def gate_done(state, g, q, controls):
 def mixed(state, bit, lows, controls):
     old = state.amps
     # Amplitudes that a control leaves alone are told at the higher level too; without controls there are none.
-    amps = [raised(z) for z in old] if controls else list(old)
+    amps = [times_root(z) for z in old] if controls else list(old)
     for i in lows:
         amps[i] = added(old[i], old[i + bit])
         amps[i + bit] = lessened(old[i], old[i + bit])

@@ -33,7 +33,7 @@ def conjugate(x):
     return (x[0], -x[3], -x[2], -x[1])
 
 
-def raised(x):
+def times_root(x):
     """x times root 2."""
     return (x[1] - x[3], x[0] + x[2], x[1] + x[3], x[2] - x[0])
 
@@ -50,6 +50,14 @@ def all_lowered(numbers):
     """Multiples of root 2, each divided by it."""
     # Dividing by root 2 is multiplying by it and halving.
     return [((b - d) // 2, (a + c) // 2, (b + d) // 2, (c - a) // 2) for a, b, c, d in numbers]
+
+
+def lowest(numbers, most):
+    """The numbers, divided by root 2 as often as all can be, most times at most; and how many times were left."""
+    while most > 0 and all_lowerable(numbers):
+        numbers = all_lowered(numbers)
+        most -= 1
+    return (numbers, most)
 
 
 def size(x):

@@ -1,6 +1,6 @@
 """The calls on numbers of the ring, which need no state."""
 
-from exactqubits.omega import added, lessened, product, rotated
+from exactqubits.omega import added, conjugate, lessened, lowest, product, rotated, times_root
 
 
 def plus(x0, x1, x2, x3, y0, y1, y2, y3):
@@ -17,3 +17,18 @@ def times(x0, x1, x2, x3, y0, y1, y2, y3):
 
 def turned(x0, x1, x2, x3, j):
     return [0] + list(rotated((x0, x1, x2, x3), j))
+
+
+def bar(x0, x1, x2, x3):
+    return [0] + list(conjugate((x0, x1, x2, x3)))
+
+
+def raised(x0, x1, x2, x3, k):
+    x = (x0, x1, x2, x3)
+    for step in range(k):
+        x = times_root(x)
+    return [0] + list(x)
+
+
+def lowered(x0, x1, x2, x3, k):
+    return [0] + list(lowest([(x0, x1, x2, x3)], k)[0][0])

@@ -108,9 +108,9 @@ class TimesTest(RingTest):
     def test_shares_out_over_sums_and_differences(self):
         for x, y in pairs():
             for z in (ROOT, (3, -4, 5, 7)):
-                apart = self.told(times, *x, *z), self.told(times, *y, *z)
-                self.assertEqual(self.told(times, *self.told(plus, *x, *y), *z), self.told(plus, *apart[0], *apart[1]))
-                self.assertEqual(self.told(times, *self.told(minus, *x, *y), *z), self.told(minus, *apart[0], *apart[1]))
+                apart = self.told(times, *x, *z) + self.told(times, *y, *z)
+                for call in (plus, minus):
+                    self.assertEqual(self.told(times, *self.told(call, *x, *y), *z), self.told(call, *apart))
 
     def test_against_the_model(self):
         for x, y in pairs():
