@@ -1,7 +1,7 @@
 """What is told of states without changing them."""
 
 from exactqubits.amplitudes import ones_in
-from exactqubits.omega import ZERO, added, conjugate, lessened, product, rotated, size
+from exactqubits.omega import ZERO, added, conjugate, lessened, product, rotated, size_of
 
 
 def weight(state, mask, value):
@@ -9,7 +9,7 @@ def weight(state, mask, value):
     v = 0
     for i, z in enumerate(state.amps):
         if (i & mask) == value:
-            part = size(z)
+            part = size_of(z)
             u += part[0]
             v += part[1]
     return [u, v]

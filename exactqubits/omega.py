@@ -60,8 +60,28 @@ def lowest(numbers, most):
     return (numbers, most)
 
 
-def size(x):
+def depth_of(x):
+    """How often x, which isn't 0, can be divided by root 2."""
+    numbers = [x]
+    count = 0
+    while all_lowerable(numbers):
+        numbers = all_lowered(numbers)
+        count += 1
+    return count
+
+
+def size_of(x):
     """u and v, where x times its conjugate is u + v root 2."""
     u = x[0] * x[0] + x[1] * x[1] + x[2] * x[2] + x[3] * x[3]
     v = x[0] * x[1] + x[1] * x[2] + x[2] * x[3] - x[3] * x[0]
     return (u, v)
+
+
+def sign_of(u, v):
+    """-1, 0 or 1, as u + v root 2 is below, at or above 0."""
+    # Squares that keep the sign stand in the same order as what is squared, and they are whole.
+    left = u * abs(u)
+    right = -2 * v * abs(v)
+    if left == right:
+        return 0
+    return 1 if left > right else -1

@@ -1,6 +1,9 @@
 """The calls on numbers of the ring, which need no state."""
 
-from exactqubits.omega import added, conjugate, lessened, lowest, product, rotated, times_root
+from exactqubits.omega import (
+    ZERO, added, conjugate, depth_of, lessened, lowest, product, rotated, sign_of, size_of, times_root,
+)
+from exactqubits.refusals import NEVER
 
 
 def plus(x0, x1, x2, x3, y0, y1, y2, y3):
@@ -32,3 +35,19 @@ def raised(x0, x1, x2, x3, k):
 
 def lowered(x0, x1, x2, x3, k):
     return [0] + list(lowest([(x0, x1, x2, x3)], k)[0][0])
+
+
+def depth(x0, x1, x2, x3):
+    x = (x0, x1, x2, x3)
+    # 0 can be divided without end.
+    if x == ZERO:
+        return [NEVER]
+    return [0, depth_of(x)]
+
+
+def size(x0, x1, x2, x3):
+    return [0] + list(size_of((x0, x1, x2, x3)))
+
+
+def sign(u, v):
+    return [0, sign_of(u, v)]

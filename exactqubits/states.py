@@ -6,18 +6,10 @@ from exactqubits.gates import GATE_KINDS, gate_done
 from exactqubits.measures import inner_product, mean, proportional, weight
 from exactqubits.omega import ZERO
 from exactqubits.parts import joined, kept, rank_by, rearranged, shown
+from exactqubits.refusals import FAULTY, NEVER, NO_SUCH, NOT_BEGUN, TOO_FINE, TOO_LARGE, TOO_MANY
 
 MOST_QUBITS = 6
 MOST_BYTES = 4096
-
-# Refusals.
-NO_SUCH = -1
-TOO_LARGE = -2
-TOO_FINE = -3
-NEVER = -4
-TOO_MANY = -5
-FAULTY = -6
-NOT_BEGUN = -10
 
 # How many whole numbers each call has ahead of its row, if it has one.
 SIZES = {
