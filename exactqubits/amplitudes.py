@@ -19,8 +19,11 @@ class State:
         self.amps = amps
 
 
-def fresh(qubits):
-    return State(qubits, 0, [ONE] + [ZERO] * ((1 << qubits) - 1))
+def basis_state(qubits, i):
+    """The state whose amplitude i is 1, all others 0."""
+    amps = [ZERO] * (1 << qubits)
+    amps[i] = ONE
+    return State(qubits, 0, amps)
 
 
 def one_form(qubits, level, amps):

@@ -2,6 +2,7 @@
 
 from exactqubits.gates import UNDOING, undone
 
+MOST_BYTES = 4096
 MOST_GATES = 2000
 MOST_TIMES = 1000
 MOST_BRACKETS = 16

@@ -7,6 +7,9 @@ GATE_KINDS = 8
 X_GATE = 0
 Y_GATE = 1
 H_GATE = 3
+S_GATE = 4
+S_BACK_GATE = 5
+T_BACK_GATE = 7
 
 # How far the gates that keep each amplitude in its place turn those at which the qubit reads 1.
 TURNS = {2: 4, 4: 2, 5: 6, 6: 1, 7: 7}
@@ -54,6 +57,13 @@ def turned_ones(state, bit, lows, j):
     return State(state.qubits, state.level, amps)
 
 
+def all_done(state, gates):
+    """The state after gates, each as (g, q, controls), done one after another."""
+    for gate in gates:
+        state = gate_done(state, gate[0], gate[1], gate[2])
+    return state
+
+
 def undone(gates):
-    """The gates, each as (g, q, controls), that undo these."""
+    """The gates that undo these."""
     return [(UNDOING[gate[0]], gate[1], gate[2]) for gate in reversed(gates)]

@@ -1,15 +1,14 @@
 """The calls 11 to 25 on four states, answered one behind another."""
 
-from exactqubits.amplitudes import TooFine, fresh, has_qubits
-from exactqubits.circuits import MOST_GATES, Fault, circuit_read
-from exactqubits.gates import GATE_KINDS, gate_done
+from exactqubits.amplitudes import TooFine, basis_state, has_qubits
+from exactqubits.circuits import MOST_BYTES, MOST_GATES, Fault, circuit_read
+from exactqubits.gates import GATE_KINDS, all_done, gate_done
 from exactqubits.measures import inner_product, mean, proportional, weight
 from exactqubits.omega import ZERO
 from exactqubits.parts import joined, kept, rank_by, rearranged, shown
 from exactqubits.refusals import FAULTY, NEVER, NO_SUCH, NOT_BEGUN, TOO_FINE, TOO_LARGE, TOO_MANY
 
 MOST_QUBITS = 6
-MOST_BYTES = 4096
 
 # How many whole numbers each call has ahead of its row, if it has one.
 SIZES = {
@@ -23,7 +22,7 @@ OF_TWO_STATES = (22, 24, 25)
 def begin(book, given):
     if given[0] >= len(book) or given[1] > MOST_QUBITS:
         return [NO_SUCH]
-    book[given[0]] = fresh(given[1])
+    book[given[0]] = basis_state(given[1], 0)
     return [0]
 
 
@@ -52,9 +51,7 @@ def run_circuit(book, given):
     circuit = circuit_read(text, state.qubits)
     if circuit.total > MOST_GATES:
         return [TOO_MANY]
-    for gate in circuit.gates:
-        state = gate_done(state, gate[0], gate[1], gate[2])
-    book[given[0]] = state
+    book[given[0]] = all_done(state, circuit.gates)
     return [0]
 
 

@@ -114,14 +114,7 @@ class Model:
         return [int(p) for p in total]
 
     def same(self, other):
-        quotients = set()
-        for x, y in zip(self.vector, other.vector):
-            if x == NAUGHT and y == NAUGHT:
-                continue
-            if x == NAUGHT or y == NAUGHT:
-                return 0
-            quotients.add(mul(x, inverse(y)))
-        return 1 if len(quotients) == 1 else 0
+        return 1 if likeness(self.vector, other.vector) else 0
 
     def table(self, mask):
         rows = {}
@@ -183,6 +176,36 @@ class Model:
         other = Model(self.n)
         other.vector = list(self.vector)
         return other
+
+
+def factors(left, right):
+    """All factors that take numbers on the right to those on the left; None is among them where there's none."""
+    found = set()
+    for x, y in zip(left, right, strict=True):
+        if x == NAUGHT and y == NAUGHT:
+            continue
+        found.add(None if y == NAUGHT else mul(x, inverse(y)))
+    return found
+
+
+def table_of(n, gates):
+    """All numbers of the matrix that the gates are, column by column."""
+    numbers = []
+    for i in range(2 ** n):
+        column = Model(n)
+        column.vector = [UNIT if j == i else NAUGHT for j in range(2 ** n)]
+        for step in gates:
+            column.gate(*step)
+        numbers += column.vector
+    return numbers
+
+
+def likeness(left, right):
+    """2 if the tables are the same, 1 if but for one factor, else 0."""
+    found = factors(left, right)
+    if len(found) > 1 or NAUGHT in found or None in found:
+        return 0
+    return 2 if found == {UNIT} else 1
 
 
 def real(x):

@@ -20,8 +20,12 @@ def gate(o, g, q, controls=0):
     return [13, o, g, q, controls]
 
 
+def data_of(text):
+    return list(text.encode("ascii")) if isinstance(text, str) else list(text)
+
+
 def run(o, text):
-    data = list(text.encode("ascii")) if isinstance(text, str) else list(text)
+    data = data_of(text)
     return [14, o, len(data)] + data
 
 

@@ -1,13 +1,14 @@
-"""P1, P2, P3 and P5 over sessions of random calls, held against the second reckoning."""
+"""P1, P2, P3 and P5 over the whole program; random calls are held against the second reckoning."""
 
 import random
 
+from exactqubits.ring import equal, form
 from tests.model import Model
 from tests.support import (
-    TOP, CallsTest, amp, ask, begin, beside, gate, inner, keep, level, look, moved, picture, picture_calls, qubits,
+    TOP, CallsTest, amp, ask, begin, beside, data_of, gate, inner, keep, level, look, moved, picture, picture_calls, qubits,
     rank, run, same, shrunk, sure, weight,
 )
-from tests.texts import fault, random_circuit
+from tests.texts import fault, other_way, random_circuit
 
 
 class Session:
@@ -178,6 +179,38 @@ class PromisesTest(CallsTest):
         self.assertEqual(len(weights), 5)
         self.assertEqual(set(weights), {weights[0]})
 
+    def check_leave_equal_states(self, n, ready, left, right):
+        """Circuits that equal calls the same leave the same state, level and all."""
+        self.assertEqual(equal(min(n, 3), data_of(left), data_of(right)), [0, 2])
+        self.assertEqual(picture(ready + [run(0, left)], 0, n), picture(ready + [run(0, right)], 0, n))
+
+    def test_circuits_done_in_another_way_leave_equal_states(self):
+        chance = random.Random(53)
+        for turn in range(80):
+            few = chance.randint(1, 3)
+            n = chance.choice([few, 6]) if few == 3 else few
+            text, gates = random_circuit(chance, few, 2)
+            if len(gates) <= 200:
+                ready = [begin(0, n), run(0, random_circuit(chance, n, 2)[0])]
+                self.check_leave_equal_states(n, ready, text, other_way(gates))
+
+    def test_circuits_that_are_equal_but_for_a_factor_leave_the_same(self):
+        chance = random.Random(54)
+        for turn in range(300):
+            n = chance.choice([1, 1, 2])
+            left, right = [random_circuit(chance, n, 1)[0] for text in range(2)]
+            ready = [run(o, f"h{q};t{q};h{q};s{q}") for o in (0, 1) for q in range(n)]
+            told = ask([begin(0, n), begin(1, n)] + ready + [run(0, left), run(1, right), same(0, 1)])[-1]
+            if equal(n, data_of(left), data_of(right))[1] > 0:
+                self.assertEqual(told, [0, 1])
+
+    def test_refused_calls_without_states_change_nothing(self):
+        for text in ([], [255] * 4097, data_of("x0;q"), data_of("(h0;t0)^1000"), data_of("((t0)^1000)^3")):
+            given = list(text)
+            told = [equal(1, given, given), form(given), equal(4, given, given)]
+            self.assertEqual(given, text)
+            self.assertEqual([equal(1, given, given), form(given), equal(4, given, given)], told)
+
     def test_equal_circuits_leave_equal_states(self):
         for n, left, right in (
             (1, "h0;z0;h0", "x0"), (1, "(t0)^8", ""), (1, "t0;t0", "s0"), (1, "s0;s0", "z0"), (1, "s'0", "s0;z0"),
@@ -185,7 +218,7 @@ class PromisesTest(CallsTest):
             (3, "h2;z2?0,1;h2", "x2?1,0"), (2, "t0?1", "t1?0"), (1, "(h0)^2", "~()"), (1, "y0", "~(s0);x0;s0"),
         ):
             ready = [begin(0, n)] + [run(0, f"h{q};t{q};h{q};t{q}") for q in range(n)]
-            self.assertEqual(picture(ready + [run(0, left)], 0, n), picture(ready + [run(0, right)], 0, n))
+            self.check_leave_equal_states(n, ready, left, right)
 
     def test_undoing_near_the_limit(self):
         ready = shrunk(110)

@@ -45,6 +45,22 @@ def random_circuit(chance, n, depth):
     return gap(chance) + ";".join(texts), done
 
 
+# Other ways to do each gate, by its number; # stands for its qubit, @ for that and its controls.
+OTHER_WAYS = {
+    0: "h#;z@;h#", 1: "s'#;x@;s#", 2: "s@;s@", 3: "~(h@)", 4: "(t@)^2", 5: "z@;s@", 6: "s@;t'@", 7: "~(t@;(h@)^2)",
+}
+
+
+def other_way(gates):
+    """A text that does the same as the gates, each done in another way."""
+    texts = []
+    for g, q, controls in gates:
+        listed = [str(c) for c in range(6) if controls >> c & 1]
+        target = f"{q}?{','.join(listed)}" if listed else f"{q}"
+        texts.append(OTHER_WAYS[g].replace("@", target).replace("#", f"{q}"))
+    return ";".join(texts)
+
+
 # What may stand in each place of a text, and the place behind it; N is a number.
 SHAPE = {
     "item": {**dict.fromkeys("xyzhst", "letter"), "~": "tilde", "(": "item", ";": "item", ")": "closed"},
